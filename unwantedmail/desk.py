@@ -1,0 +1,41 @@
+"""The calls of the program: each answers a list of whole numbers."""
+
+MOST_TAUGHT = 10000
+MOST_WORDS = 40
+
+
+def chance(n, m, l):
+    """How likely a letter is unwanted, in thousandths, rounded down; or a refusal."""
+    if not is_letter(n, m, l):
+        return refusal()
+    wanted = weight(n, m, l[0::2])
+    unwanted = weight(m, n, l[1::2])
+    return [unwanted * 1000 // (wanted + unwanted)]
+
+
+def refusal():
+    """The answer to what is out of range: a new list each time, since who gets it may change it."""
+    return [-22]
+
+
+def is_letter(n, m, l):
+    """Whether l tells a letter by its words, where n wanted and m unwanted ones were taught."""
+    if n > MOST_TAUGHT or m > MOST_TAUGHT:
+        return False
+    if len(l) % 2 == 1 or len(l) > 2 * MOST_WORDS:
+        return False
+    for place in range(0, len(l), 2):
+        if l[place] > n or l[place + 1] > m:
+            return False
+    return True
+
+
+def weight(own, other, letters_with_word):
+    """The weight for one side, of which own letters were taught, and other ones of the other side.
+
+    letters_with_word tells of each word in how many of the side's own letters it was.
+    """
+    product = own + 1
+    for letters in letters_with_word:
+        product = product * (letters + 1) * (other + 2)
+    return product
