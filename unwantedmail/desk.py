@@ -2,15 +2,32 @@
 
 MOST_TAUGHT = 10000
 MOST_WORDS = 40
+MOST_TIMES = 1000
+
+UNWANTED = 2
+IN_DOUBT = 1
+WANTED = 0
 
 
 def chance(n, m, l):
     """How likely a letter is unwanted, in thousandths, rounded down; or a refusal."""
     if not is_letter(n, m, l):
         return refusal()
-    wanted = weight(n, m, l[0::2])
-    unwanted = weight(m, n, l[1::2])
+    wanted, unwanted = weights(n, m, l)
     return [unwanted * 1000 // (wanted + unwanted)]
+
+
+def told(t, n, m, l):
+    """Whether a letter is told unwanted (2), in doubt (1) or wanted (0); or a refusal."""
+    if t < 1 or t > MOST_TIMES or not is_letter(n, m, l):
+        return refusal()
+    wanted, unwanted = weights(n, m, l)
+    # Ahead of doubt: with a t of 1, just as likely is enough to be unwanted, and nothing is in doubt.
+    if unwanted >= t * wanted:
+        return [UNWANTED]
+    if unwanted > wanted:
+        return [IN_DOUBT]
+    return [WANTED]
 
 
 def refusal():
@@ -28,6 +45,11 @@ def is_letter(n, m, l):
         if l[place] > n or l[place + 1] > m:
             return False
     return True
+
+
+def weights(n, m, l):
+    """The letter's weight for wanted, and its weight for unwanted."""
+    return weight(n, m, l[0::2]), weight(m, n, l[1::2])
 
 
 def weight(own, other, letters_with_word):
