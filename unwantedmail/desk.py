@@ -4,9 +4,13 @@ MOST_TAUGHT = 10000
 MOST_WORDS = 40
 MOST_TIMES = 1000
 
-UNWANTED = 2
-IN_DOUBT = 1
-WANTED = 0
+TOLD_UNWANTED = 2
+TOLD_IN_DOUBT = 1
+TOLD_WANTED = 0
+
+SAYS_UNWANTED = 2
+SAYS_WANTED = 1
+SAYS_NEITHER = 0
 
 
 def chance(n, m, l):
@@ -24,10 +28,24 @@ def told(t, n, m, l):
     wanted, unwanted = weights(n, m, l)
     # Ahead of doubt: with a t of 1, just as likely is enough to be unwanted, and nothing is in doubt.
     if unwanted >= t * wanted:
-        return [UNWANTED]
+        return [TOLD_UNWANTED]
     if unwanted > wanted:
-        return [IN_DOUBT]
-    return [WANTED]
+        return [TOLD_IN_DOUBT]
+    return [TOLD_WANTED]
+
+
+def says(n, m, a, b):
+    """Whether a word says unwanted (2), wanted (1) or neither (0); or a refusal."""
+    # A word is refused just where a letter of this one word is.
+    if not is_letter(n, m, [a, b]):
+        return refusal()
+    wanted = word_weight(a, m)
+    unwanted = word_weight(b, n)
+    if wanted < unwanted:
+        return [SAYS_UNWANTED]
+    if wanted > unwanted:
+        return [SAYS_WANTED]
+    return [SAYS_NEITHER]
 
 
 def refusal():
@@ -52,12 +70,17 @@ def weights(n, m, l):
     return weight(n, m, l[0::2]), weight(m, n, l[1::2])
 
 
-def weight(own, other, letters_with_word):
+def weight(own, other, letters_with_each):
     """The weight for one side, of which own letters were taught, and other ones of the other side.
 
-    letters_with_word tells of each word in how many of the side's own letters it was.
+    letters_with_each tells of each word in how many of the side's own letters it was.
     """
     product = own + 1
-    for letters in letters_with_word:
-        product = product * (letters + 1) * (other + 2)
+    for letters_with_word in letters_with_each:
+        product = product * word_weight(letters_with_word, other)
     return product
+
+
+def word_weight(letters_with_word, other):
+    """How many times as great a word makes the weight for one side."""
+    return (letters_with_word + 1) * (other + 2)
