@@ -4,10 +4,9 @@ import inspect
 import io
 import pathlib
 import unittest
-from fractions import Fraction
 from itertools import product
 
-from helpers import LARGEST, REFUSED, LockedList, words
+from helpers import LARGEST, REFUSED, LockedList, flat, odds, words
 
 import unwantedmail
 from unwantedmail.desk import chance
@@ -62,13 +61,10 @@ class OrdinaryLetters(unittest.TestCase):
         for n, m in product(range(3), repeat=2):
             pairs = list(product(range(n + 1), range(m + 1)))
             for letter in [[]] + [[p] for p in pairs] + [[p, q] for p in pairs for q in pairs]:
-                odds = Fraction(m + 1, n + 1)
-                for a, b in letter:
-                    odds *= Fraction(b + 1, m + 2) / Fraction(a + 1, n + 2)
-                expected = int(1000 * odds / (1 + odds))
-                flat = [number for pair in letter for number in pair]
-                with self.subTest(n=n, m=m, l=flat):
-                    self.assertEqual(chance(n, m, flat), [expected])
+                l = flat(letter)
+                expected = int(1000 * odds(n, m, l) / (1 + odds(n, m, l)))
+                with self.subTest(n=n, m=m, l=l):
+                    self.assertEqual(chance(n, m, l), [expected])
 
     def test_the_order_of_words_is_no_matter(self):
         self.assertEqual(chance(2, 4, [2, 0, 0, 4, 1, 2]), chance(2, 4, [0, 4, 1, 2, 2, 0]))

@@ -2,10 +2,9 @@ import contextlib
 import inspect
 import io
 import unittest
-from fractions import Fraction
 from itertools import product
 
-from helpers import LARGEST, REFUSED, LockedList, words
+from helpers import LARGEST, REFUSED, LockedList, flat, odds, words
 
 from unwantedmail.desk import chance, told
 
@@ -98,14 +97,12 @@ class OrdinaryLetters(unittest.TestCase):
         for n, m in product(range(3), repeat=2):
             pairs = list(product(range(n + 1), range(m + 1)))
             for letter in [[]] + [[p] for p in pairs] + [[p, q] for p in pairs for q in pairs]:
-                odds = Fraction(m + 1, n + 1)
-                for a, b in letter:
-                    odds *= Fraction(b + 1, m + 2) / Fraction(a + 1, n + 2)
-                flat = [number for pair in letter for number in pair]
+                l = flat(letter)
+                times = odds(n, m, l)
                 for t in (1, 2, 3, 4, 5, 6, 9, 27, 1000):
-                    expected = UNWANTED if odds >= t else IN_DOUBT if odds > 1 else WANTED
-                    with self.subTest(t=t, n=n, m=m, l=flat):
-                        self.assertEqual(told(t, n, m, flat), expected)
+                    expected = UNWANTED if times >= t else IN_DOUBT if times > 1 else WANTED
+                    with self.subTest(t=t, n=n, m=m, l=l):
+                        self.assertEqual(told(t, n, m, l), expected)
 
 
 class Corners(unittest.TestCase):

@@ -48,6 +48,17 @@ def says(n, m, a, b):
     return [SAYS_NEITHER]
 
 
+def order(l):
+    """How many words there are, then their places, from 0, the louder ones first; or a refusal."""
+    # Nothing tells here how many letters were taught: an a or b may be as great as of any letter.
+    if not is_letter(MOST_TAUGHT, MOST_TAUGHT, l):
+        return refusal()
+    places = []
+    for place in range(len(l) // 2):
+        places.insert(rank(l, places, place), place)
+    return [len(places)] + places
+
+
 def refusal():
     """The answer to what is out of range: a new list each time, since who gets it may change it."""
     return [-22]
@@ -84,3 +95,18 @@ def weight(own, other, letters_with_each):
 def word_weight(letters_with_word, other):
     """How many times as great a word makes the weight for one side."""
     return (letters_with_word + 1) * (other + 2)
+
+
+def rank(l, places, place):
+    """How far behind the word at this place belongs among those that are in order already."""
+    for ahead in range(len(places)):
+        # Behind those that are just as loud: their places are lesser.
+        if is_louder(l, place, places[ahead]):
+            return ahead
+    return len(places)
+
+
+def is_louder(l, one, other):
+    """Whether the word at the place one is louder than the one at the place other."""
+    # Each side is taken times both a + 1, so that nothing is lost by dividing.
+    return (l[2 * one + 1] + 1) * (l[2 * other] + 1) > (l[2 * other + 1] + 1) * (l[2 * one] + 1)
